@@ -1,6 +1,7 @@
 """The benches, and the calls that are made of them."""
 
-from taperbench.exact import Exact, is_operation, multiply_add, nearest_whole, operate
+from taperbench.doubles import double_of, number_of_double
+from taperbench.exact import Exact, is_operation, multiply_add, nearest_whole, operate, opposite, zero
 from taperbench.patterns import number_of, pattern_of, signed
 
 WIDTHS = (8, 16, 32, 64)
@@ -10,10 +11,11 @@ REFUSED = -2
 OUTSIDE = 9223372036854775808
 
 
-# The width is 0 until the bench is begun.
+# The width is 0 until the bench is begun. The tally is the sum, or None once it is no number.
 class Bench:
     def __init__(self):
         self.width = 0
+        self.tally = zero()
 
     def are_patterns(self, numbers):
         return max(numbers) >> self.width == 0
@@ -29,6 +31,7 @@ def begin(bench, numbers):
     if numbers[0] not in WIDTHS:
         return [REFUSED]
     bench.width = numbers[0]
+    bench.tally = zero()
     return [DONE]
 
 
@@ -74,8 +77,48 @@ def whole(bench, numbers):
     return [DONE, result % (2 * OUTSIDE)]
 
 
+def pass_to(bench, numbers):
+    width = numbers[0]
+    if width not in WIDTHS or not bench.are_patterns(numbers[1:]):
+        return [REFUSED]
+    return [DONE, pattern_of(bench.number(numbers[1]), width)]
+
+
+def double(bench, numbers):
+    if not bench.are_patterns(numbers):
+        return [REFUSED]
+    return [DONE, double_of(bench.number(numbers[0]))]
+
+
+def undouble(bench, numbers):
+    return [DONE, bench.pattern(number_of_double(numbers[0]))]
+
+
+def clear(bench, numbers):
+    bench.tally = zero()
+    return [DONE]
+
+
+def add_product(bench, numbers):
+    minus = numbers[2]
+    if minus not in (0, 1) or not bench.are_patterns(numbers[:2]):
+        return [REFUSED]
+    a = bench.number(numbers[0])
+    if minus == 1 and a is not None:
+        a = opposite(a)
+    bench.tally = multiply_add(a, bench.number(numbers[1]), bench.tally)
+    return [DONE]
+
+
+def total(bench, numbers):
+    return [DONE, bench.pattern(bench.tally)]
+
+
 # By a call's number: what answers it, and how many numbers stand behind its bench.
-CALLS = ((begin, 1), (op, 3), (fma, 3), (order, 2), (of, 1), (whole, 1))
+CALLS = (
+    (begin, 1), (op, 3), (fma, 3), (order, 2), (of, 1), (whole, 1),
+    (pass_to, 2), (double, 1), (undouble, 1), (clear, 0), (add_product, 3), (total, 0),
+)
 
 
 def answers(calls):

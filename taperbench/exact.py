@@ -15,6 +15,10 @@ class Exact:
         self.power = power
 
 
+def zero():
+    return Exact(0, 0)
+
+
 def nearest_even(number, power):
     # The whole number next to number * 2^power, of two that are as near the even one.
     if power >= 0:

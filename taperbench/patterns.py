@@ -3,7 +3,7 @@
 None stands for no number.
 """
 
-from taperbench.exact import Exact, nearest_even, opposite
+from taperbench.exact import Exact, nearest_even, opposite, zero
 
 
 def run_length(pattern, width):
@@ -29,7 +29,7 @@ def number_above_zero(pattern, width):
 def number_of(pattern, width):
     half = 1 << (width - 1)
     if pattern == 0:
-        return Exact(0, 0)
+        return zero()
     if pattern == half:
         return None
     if pattern > half:

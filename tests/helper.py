@@ -7,9 +7,12 @@ from random import Random
 from taperbench.benches import answers
 
 WIDTHS = (8, 16, 32, 64)
-BEGIN, OP, FMA, ORDER, OF, WHOLE = range(6)
+BEGIN, OP, FMA, ORDER, OF, WHOLE, PASS, DOUBLE, UNDOUBLE, CLEAR, SUM, TOTAL = range(12)
 ADD, SUBTRACT, MULTIPLY, DIVIDE, ROOT, NEAREST = range(6)
 REFUSED = (-2,)
+DOUBLE_SIGN = 2 ** 63
+DOUBLE_INFINITY = 0x7FF0000000000000
+DOUBLE_NO_NUMBER = 9221120237041090560
 
 
 def split(given):
@@ -153,6 +156,36 @@ def expected_whole(a, w):
     if x is None or not -2 ** 63 <= round(x) <= 2 ** 63 - 1:
         return 2 ** 63
     return round(x) % 2 ** 64
+
+
+def double_says(bits):
+    """The number that the 64 bits of a double say, or None where they say none."""
+    text = format(bits, "064b")
+    exponent, places = int(text[1:12], 2), Fraction(int(text[12:], 2), 2 ** 52)
+    if exponent == 2047:
+        return None
+    size = places * Fraction(2) ** -1022 if exponent == 0 else (1 + places) * Fraction(2) ** (exponent - 1023)
+    return -size if text[0] == "1" else size
+
+
+@lru_cache(maxsize=None)
+def nearest_double(x):
+    """The bits of the double next to x, of two that are as near the one whose bits are even."""
+    if x is None:
+        return DOUBLE_NO_NUMBER
+    if x < 0:
+        return DOUBLE_SIGN + nearest_double(-x)
+    low, high = 0, DOUBLE_INFINITY - 1
+    while high - low > 1:
+        middle = (low + high) // 2
+        if double_says(middle) <= x:
+            low = middle
+        else:
+            high = middle
+    side = compare(x - double_says(low), double_says(high) - x)
+    if side == 0:
+        return low if low % 2 == 0 else high
+    return low if side < 0 else high
 
 
 def exactly(x, w):
